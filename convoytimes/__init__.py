@@ -1,0 +1,1 @@
+"""Convoy departure times with minimum weighted waiting."""
