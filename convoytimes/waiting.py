@@ -39,3 +39,9 @@ def longest_waiting_ship(ships, departures):
         if longest is None or waiting > longest[1]:
             longest = (ship, waiting)
     return longest
+
+
+def ships_with_each(ships, departures):
+    """Answers, for each departure, how many ships leave with it."""
+    taken = [first_departure_from(departures, arrival) for arrival, weight in ships]
+    return [taken.count(departure) for departure in departures]

@@ -1,5 +1,7 @@
 """Writes calls by their names and reads answers call by call."""
 
+import itertools
+
 from convoytimes.timetable import answers
 
 NAMES = (
@@ -56,3 +58,44 @@ def ask_built(ships, departures, *calls):
     """The answers to the calls alone, asked of an instance with these ships and departures."""
     before = built(ships, departures)
     return ask(*before, *calls)[len(before):]
+
+
+def total_by_the_words(ships, departures):
+    """The total waiting as the document words it, or None if some ship is not served."""
+    total = 0
+    for arrival, weight in ships:
+        later = [hour for hour in departures if hour >= arrival]
+        if not later:
+            return None
+        total += weight * (min(later) - arrival)
+    return total
+
+
+def best_by_trying(ships, most, hours):
+    """The smallest (total, list) of all increasing lists of at most this many of the hours that serve all ships."""
+    tried = []
+    for count in range(most + 1):
+        for departures in itertools.combinations(sorted(hours), count):
+            total = total_by_the_words(ships, departures)
+            if total is not None:
+                tried.append((total, list(departures)))
+    return min(tried)
+
+
+def small_sets():
+    """Many small lists of ships at the hours 0 to 6, with equal and with unequal weights."""
+    for count in range(5):
+        for arrivals in itertools.combinations_with_replacement((0, 1, 3, 4, 6), count):
+            for weights in ((1, 1, 1, 1), (9, 1, 3, 1), (2, 5, 1, 9)):
+                yield list(zip(arrivals, weights))
+
+
+# Ships in no order of hours, at 8 different hours, at one hour, at the ends of the day, with equal distances.
+LARGE_SETS = (
+    [(48, 2), (3, 9), (20, 1), (21, 4), (0, 1), (33, 7), (20, 6), (47, 5)],
+    [(0, 3), (6, 1), (13, 9), (20, 2), (21, 7), (33, 1), (40, 4), (48, 5)],
+    [(7, 1), (6, 1), (5, 1), (4, 1), (3, 1), (2, 1), (1, 1), (0, 1)],
+    [(12, 9), (12, 1), (12, 4), (12, 4), (12, 2), (12, 3), (12, 9), (12, 9)],
+    [(0, 9), (48, 9), (0, 1), (48, 1)],
+    [(40, 2), (10, 2), (30, 2), (20, 2), (0, 2)],
+)

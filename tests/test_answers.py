@@ -37,6 +37,20 @@ MIXED = [
     2, 2,
     10,
     5,
+    13, 1,
+    13, 0,
+    14, 2,
+    15,
+    16, 2,
+    17, 3,
+    18, 2,
+    19, 4,
+    20, 3,
+    21,
+    22, 9, 9,
+    23, 1,
+    24,
+    8,
 ]
 
 MIXED_ANSWERS = [
@@ -60,6 +74,20 @@ MIXED_ANSWERS = [
     1, 2,
     1, 0,
     5, 2, 5, 1, 5, 2,
+    2, 0, 5,
+    1, -22,
+    1, 0,
+    1, 0,
+    1, 0,
+    1, 1,
+    2, 1, 2,
+    1, 0,
+    1, 5,
+    2, 1, 2,
+    1, 12,
+    1, 0,
+    3, 2, 1, 1,
+    2, 1, 5,
 ]
 
 
@@ -67,10 +95,27 @@ class FormTest(unittest.TestCase):
     def test_several_calls_number_by_number(self):
         self.assertEqual(answers(list(MIXED)), MIXED_ANSWERS)
 
-    def test_the_examples_of_the_document_that_have_landed(self):
+    def test_the_example_of_the_document_from_its_first_row_to_its_last(self):
         self.assertEqual(
-            answers([0, 1, 2, 1, 1, 5, 3, 1, 6, 1, 6, 5, 11, 0, 10]),
-            [1, 0, 1, 0, 1, 1, 1, 2, 1, 1, 2, 3, 5, 1, -33],
+            ask(
+                ("create",),
+                ("add_ship", 2, 1),
+                ("add_ship", 5, 3),
+                ("add_ship", 6, 1),
+                ("optimal_departures", 1),
+                ("optimal_departures", 2),
+                ("saving_of_departure", 2),
+                ("add_departure", 5),
+                ("waiting_time", 0),
+                ("total_waiting",),
+            ),
+            [[0], [0], [1], [2], [7, 6], [3, 2, 6], [4], [1], [3, 5], [-33]],
+        )
+
+    def test_the_example_of_the_document_number_by_number(self):
+        self.assertEqual(
+            answers([0, 1, 2, 1, 1, 5, 3, 1, 6, 1, 13, 1, 13, 2, 16, 2, 6, 5, 11, 0, 10]),
+            [1, 0, 1, 0, 1, 1, 1, 2, 2, 7, 6, 3, 3, 2, 6, 1, 4, 1, 1, 2, 3, 5, 1, -33],
         )
 
     def test_one_call_alone(self):
@@ -125,11 +170,23 @@ class NoInstanceTest(unittest.TestCase):
             ask(("add_ship", 49, 0), ("set_arrival", 0, 49), ("add_departure", 49), ("total_waiting",)),
             [[-11]] * 4,
         )
+        self.assertEqual(
+            ask(
+                ("optimal_departures", 0), ("use_optimal_departures", 9), ("saving_of_departure", 1),
+                ("cheapest_count", 1000), ("total_waiting_with", 49), ("next_departure", 49),
+                ("optimal_waiting_with_ship", 49, 0), ("optimal_waiting_without_ship", 0),
+            ),
+            [[-11]] * 8,
+        )
 
     def test_a_refused_call_ahead_of_create_leaves_nothing(self):
         self.assertEqual(
             ask(("add_ship", 3, 3), ("add_departure", 4), ("create",), ("list_ships",), ("list_departures",)),
             [[-11], [-11], [0], [0], [0]],
+        )
+        self.assertEqual(
+            ask(("use_optimal_departures", 3), ("create",), ("list_departures",), ("summary",)),
+            [[-11], [0], [0], [0, 0, 0]],
         )
 
 

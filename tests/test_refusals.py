@@ -41,6 +41,24 @@ class UnchangedTest(unittest.TestCase):
             (("total_waiting",), -33),
             (("waiting_time", 3), -2),
             (("waiting_time", 0), -33),
+            (("optimal_departures", 0), -22),
+            (("optimal_departures", 9), -22),
+            (("use_optimal_departures", 0), -22),
+            (("use_optimal_departures", 9), -22),
+            (("use_optimal_departures", GREATEST), -22),
+            (("excess_waiting",), -33),
+            (("saving_of_departure", 1), -22),
+            (("saving_of_departure", 9), -22),
+            (("cheapest_count", 1000), -22),
+            (("total_waiting_with", 49), -22),
+            (("total_waiting_with", 47), -33),
+            (("next_departure", 31), -33),
+            (("next_departure", 49), -33),
+            (("optimal_waiting_with_ship", 49, 1), -22),
+            (("optimal_waiting_with_ship", 1, 0), -22),
+            (("optimal_waiting_with_ship", 1, 10), -22),
+            (("optimal_waiting_without_ship", 3), -2),
+            (("optimal_waiting_without_ship", GREATEST), -2),
         ):
             self.check(SHIPS, DEPARTURES, LISTED, call, [code])
 
@@ -57,6 +75,13 @@ class UnchangedTest(unittest.TestCase):
             (("cancel_departure", 9), -2),
             (("waiting_time", 7), -33),
             (("longest_waiting",), -33),
+            (("use_optimal_departures", 9), -22),
+            (("excess_waiting",), -33),
+            (("total_waiting_with", 46), -33),
+            (("next_departure", 9), -33),
+            (("optimal_waiting_with_ship", 1, 1), -28),
+            (("optimal_waiting_with_ship", 49, 1), -22),
+            (("optimal_waiting_without_ship", 8), -2),
         ):
             self.check(FULL_SHIPS, FULL_DEPARTURES, FULL_LISTED, call, [code])
 
@@ -67,9 +92,20 @@ class UnchangedTest(unittest.TestCase):
             (("all_served",), [0]),
             (("waiting_time", 1), [1, 4]),
             (("longest_waiting",), [1, 1]),
+            (("optimal_departures", 2), [28 * 1, 3, 48]),
+            (("saving_of_departure", 2), [45 * 9]),
+            (("min_departures", 27), [3]),
+            (("cheapest_count", 27), [3, 81]),
+            (("total_waiting_with", 48), [9 * 1 + 1 * 1]),
+            (("next_departure", 22), [30]),
+            (("ships_per_departure",), [3, 1, 1, 0]),
+            (("optimal_waiting_with_ship", 21, 1), [1]),
+            (("optimal_waiting_without_ship", 1), [0]),
+            (("summary",), [3, 3, 3]),
         ):
             self.check(SHIPS, DEPARTURES, LISTED, call, expected)
         self.check([(3, 9)], [5], [[1, 3, 9], [1, 5]], ("total_waiting",), [18])
+        self.check([(3, 9)], [5], [[1, 3, 9], [1, 5]], ("excess_waiting",), [18])
 
     def test_calls_go_on_as_before_behind_a_refusal(self):
         self.assertEqual(
